@@ -1,0 +1,1 @@
+"""Earth cut and filled: what it costs at least to level a site."""

@@ -5,6 +5,8 @@ A way is a list of squares, each beside the one ahead of it, from a square with 
 to one with too little. moved[a][b] is how many loads are moved from a to b beside it.
 """
 
+from earthmoved.grid import squares_beside
+
 
 def least_cost(w, h, bring_cost, take_cost, excess):
     over = sum(excess)
@@ -14,23 +16,6 @@ def least_cost(w, h, bring_cost, take_cost, excess):
     within[0] -= over
     gate_cost = over * take_cost if over > 0 else -over * bring_cost
     return gate_cost + moving_cost(squares_beside(w, h), within)
-
-
-def squares_beside(w, h):
-    beside = []
-    for s in range(w * h):
-        x = s % w
-        near = []
-        if s >= w:
-            near.append(s - w)
-        if x + 1 < w:
-            near.append(s + 1)
-        if s + w < w * h:
-            near.append(s + w)
-        if x > 0:
-            near.append(s - 1)
-        beside.append(near)
-    return beside
 
 
 # The excesses must be 0 in sum: nothing passes the gate here.

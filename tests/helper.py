@@ -2,12 +2,16 @@
 
 import heapq
 import itertools
+import random
 
 from earthmoved.field import answers
 
 NAMES = ("begin", "ground", "want", "look", "sums", "least", "worth", "flat",
          "move", "bring", "take", "wise", "next", "done", "steep", "state")
 LARGEST = 4294967295
+# What a plain search gets through in short time: few squares, and a gate that costs little.
+SMALL = ((1, 1), (2, 1), (1, 2), (3, 1), (1, 3), (2, 2))
+LITTLE = (1, 2, 3)
 
 
 def run(*calls):
@@ -15,6 +19,8 @@ def run(*calls):
     numbers = []
     for call in calls:
         numbers += [NAMES.index(call[0])] + list(call[1:])
+    # Nothing longer is ever handed in.
+    assert 1 <= len(calls) <= 80 and len(numbers) <= 2000
     told = answers(numbers)
     split = []
     at = 0
@@ -33,25 +39,42 @@ def laid(size, costs, levels, wanted):
     return calls
 
 
+def some_fields(seed, many, sizes, highest, gates=(1, 2, 3, 7, 100)):
+    """Fields that are the same at each run: size, costs, levels, wanted."""
+    pick = random.Random(seed)
+    for _ in range(many):
+        size = pick.choice(sizes)
+        squares = range(size[0] * size[1])
+        costs = (pick.choice(gates), pick.choice(gates))
+        yield size, costs, [pick.randint(0, highest) for _ in squares], [pick.randint(0, highest) for _ in squares]
+
+
 def ask(size, costs, levels, wanted, *call):
     """What one call answers on a field laid out so."""
     return run(*laid(size, costs, levels, wanted), call)[-1]
 
 
+def moved_one(size, levels, s, d):
+    """The levels behind one load moved that way, or None where that can't be."""
+    w, h = size
+    x, y = s % w + (0, 1, 0, -1)[d], s // w + (-1, 0, 1, 0)[d]
+    if levels[s] == 0 or not (0 <= x < w and 0 <= y < h):
+        return None
+    moved = list(levels)
+    moved[s] -= 1
+    moved[w * y + x] += 1
+    return tuple(moved)
+
+
 def after(size, costs, levels):
     """Each state that one load moved, brought or taken away leads to, with what that costs."""
-    w, h = size
     yield costs[0], (levels[0] + 1,) + levels[1:]
     if levels[0] > 0:
         yield costs[1], (levels[0] - 1,) + levels[1:]
-    for s in range(w * h):
-        x, y = s % w, s // w
-        for nx, ny in ((x, y - 1), (x + 1, y), (x, y + 1), (x - 1, y)):
-            if levels[s] > 0 and 0 <= nx < w and 0 <= ny < h:
-                moved = list(levels)
-                moved[s] -= 1
-                moved[w * ny + nx] += 1
-                yield 1, tuple(moved)
+    for s, d in itertools.product(range(len(levels)), range(4)):
+        moved = moved_one(size, levels, s, d)
+        if moved is not None:
+            yield 1, moved
 
 
 def by_cost(size, costs, levels):
@@ -81,6 +104,15 @@ def searched(size, costs, levels, goals):
             return found
 
 
+def searched_left(size, costs, wanted, states):
+    """What a plain search finds it costs at least from each of the states till all is as wanted.
+
+    Each step has one that goes back: a move the move back, bringing the taking away. So one
+    search, back from what is wanted and with the two costs changed about, finds it for all.
+    """
+    return searched(size, (costs[1], costs[0]), wanted, states)
+
+
 def searched_flat(size, costs, levels):
     """The cheapest level for all squares, and its cost, by a plain search."""
     best = None
@@ -89,6 +121,23 @@ def searched_flat(size, costs, levels):
             return [best[1], best[0]]
         if len(set(state)) == 1 and (best is None or state[0] < best[1]):
             best = (cost, state[0])
+
+
+def due_wise(size, levels, left, s, d):
+    """What wise is to answer; left(levels) is what it costs at least from there."""
+    moved = moved_one(size, levels, s, d)
+    return [1 if moved is not None and left(moved) == left(levels) - 1 else 0]
+
+
+def due_next(size, costs, levels, wanted, left):
+    """What next is to answer; left(levels) is what it costs at least from there."""
+    if tuple(levels) == tuple(wanted):
+        return [-33]
+    for s, d in itertools.product(range(len(levels)), range(4)):
+        if due_wise(size, levels, left, s, d) == [1]:
+            return [0, s, d]
+    brought = (levels[0] + 1,) + tuple(levels[1:])
+    return [0, 0, 4 if left(brought) == left(levels) - costs[0] else 5]
 
 
 def price_rows(w, low, high):

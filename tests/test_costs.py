@@ -1,24 +1,9 @@
 """Promise 2: least, worth, flat."""
 
 import itertools
-import random
 import unittest
 
-from tests.helper import LARGEST, ask, laid, priced, run, searched, searched_flat
-
-# What a plain search gets through in short time: few squares, and a gate that costs little.
-SMALL = ((1, 1), (2, 1), (1, 2), (3, 1), (1, 3), (2, 2))
-LITTLE = (1, 2, 3)
-
-
-def some_fields(seed, many, sizes, highest, gates=(1, 2, 3, 7, 100)):
-    """Fields that are the same at each run: size, costs, levels, wanted."""
-    pick = random.Random(seed)
-    for _ in range(many):
-        size = pick.choice(sizes)
-        squares = range(size[0] * size[1])
-        costs = (pick.choice(gates), pick.choice(gates))
-        yield size, costs, [pick.randint(0, highest) for _ in squares], [pick.randint(0, highest) for _ in squares]
+from tests.helper import LARGEST, LITTLE, SMALL, ask, laid, priced, run, searched, searched_flat, some_fields
 
 
 class Least(unittest.TestCase):
